@@ -110,7 +110,10 @@ func (r *Reader) Int() int { return int(r.Long()) }
 func (r *Reader) Flag() bool { return r.Count(1) == 1 }
 
 // Text is the next text.
-func (r *Reader) Text(most int) string { return r.Fixed(r.Count(most)) }
+func (r *Reader) Text(most int) string {
+	// A text may always have no bytes: unlike a Count, it is not above a most below 0 then.
+	return r.Fixed(r.Count(max(most, 0)))
+}
 
 // Fixed is the next text of a length.
 func (r *Reader) Fixed(n int) string {
